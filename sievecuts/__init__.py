@@ -1,0 +1,1 @@
+"""Sieve selection: optimal cuts of a particle-size distribution."""
