@@ -1,6 +1,6 @@
 """Lists of sieve positions: which are valid, which there are, which is best."""
 
-from sievecuts.classes import misplaced_amount
+from sievecuts.classes import heaviest_weight, misplaced_amount
 
 
 def are_positions(numbers, size_count):
@@ -26,8 +26,23 @@ def position_lists(size_count, count):
     return lists
 
 
-def best_positions(sizes, count):
-    """Return the list of that many positions with the lowest misplaced amount."""
+def lowest_positions(sizes, count, measure):
+    """Return the list of that many positions for which the measure of the sizes and the list is lowest."""
     lists = position_lists(len(sizes), count)
     # min keeps the first of equals, which is the lexicographically smallest list.
-    return min(lists, key=lambda positions: misplaced_amount(sizes, positions))
+    return min(lists, key=lambda positions: measure(sizes, positions))
+
+
+def best_positions(sizes, count):
+    """Return the list of that many positions with the lowest misplaced amount."""
+    return lowest_positions(sizes, count, misplaced_amount)
+
+
+def most_even_positions(sizes, count):
+    """Return the list of that many positions with the lowest heaviest weight."""
+    return lowest_positions(sizes, count, heaviest_weight)
+
+
+def best_amount(sizes, count):
+    """Return the misplaced amount of the best list of that many positions."""
+    return misplaced_amount(sizes, best_positions(sizes, count))

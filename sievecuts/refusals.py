@@ -42,3 +42,17 @@ class NothingThere(Refusal):
 
     def __init__(self):
         Refusal.__init__(self, -6)
+
+
+class AlreadyThere(Refusal):
+    """There is already a sieve at this position."""
+
+    def __init__(self):
+        Refusal.__init__(self, -17)
+
+
+class NeverEnough(Refusal):
+    """No number of sieves is enough."""
+
+    def __init__(self):
+        Refusal.__init__(self, -33)

@@ -1,11 +1,11 @@
-"""best_sieves, against lists worked out by hand and against a plain search over all lists of positions."""
+"""best_sieves and apply_best_sieves: lists worked out by hand, and a plain search over all lists of positions."""
 
 import unittest
 from random import Random
 
 from tests.helper import (
-    LARGEST, OUTSIDE_LIMITS, add_size, ask, ask_last, best_sieves, create, get_classes, get_sieves, get_sizes,
-    plain_best, remove_last_size, set_sieves, sifter,
+    LARGEST, OUTSIDE_LIMITS, add_size, apply_best_sieves, ask, ask_last, best_sieves, create, get_classes, get_sieves,
+    get_sizes, many_sizes, misplaced, plain_best, remove_last_size, set_sieves, sifter,
 )
 
 
@@ -72,6 +72,61 @@ class State(unittest.TestCase):
             parts = ask(*sifter(sizes, positions), *looks, best_sieves(1), *looks)
             self.assertEqual(parts[-4], [6, 2])
             self.assertEqual(parts[-3:], parts[-7:-4])
+
+
+class ApplyBestSieves(unittest.TestCase):
+    SIZES = [(9, 1), (8, 2), (1, 9), (2, 8)]
+
+    def assert_applied(self, sizes, positions, count, amount, best):
+        """With sieves at the positions, the call answers the amount, and leaves these best sieves and the sizes."""
+        calls = [*sifter(sizes, positions), apply_best_sieves(count), get_sieves(), misplaced(), get_sizes()]
+        kept = [len(sizes)] + [number for pair in sizes for number in pair]
+        self.assertEqual(ask(*calls)[-4:], [[amount], [count, *best], [amount], kept])
+
+    def test_it_replaces_all_sieves(self):
+        for positions in [[], [1], [2], [1, 3], [1, 2, 3]]:
+            self.assert_applied(self.SIZES, positions, 0, 20, [])
+            self.assert_applied(self.SIZES, positions, 1, 6, [2])
+            self.assert_applied(self.SIZES, positions, 2, 6, [1, 2])
+            self.assert_applied(self.SIZES, positions, 3, 6, [1, 2, 3])
+
+    def test_the_classes_follow(self):
+        calls = [*sifter(self.SIZES, [1, 3]), apply_best_sieves(1), get_classes()]
+        self.assertEqual(ask_last(*calls), [2, 2, 17, 3, 2, 3, 17])
+
+    def test_ties_go_to_the_smallest_list(self):
+        for count in range(10):
+            self.assert_applied([(0, 0)] * 10, [5, 9], count, 0, range(1, count + 1))
+        self.assert_applied([(9, 0), (9, 0), (3, 3), (0, 9)], [1], 1, 3, [2])
+
+    def test_one_size(self):
+        self.assert_applied([(3, 5)], [], 0, 3, [])
+
+    def test_ten_sizes(self):
+        self.assert_applied([(9, 1), (1, 9)] * 5, [4], 9, 10, range(1, 10))
+
+    def test_no_sizes(self):
+        for count in [0, 1, LARGEST]:
+            calls = [create(), apply_best_sieves(count), get_sieves()]
+            self.assertEqual(ask(*calls), [[0], OUTSIDE_LIMITS, [0]])
+
+    def test_as_many_sieves_as_sizes_or_more(self):
+        for size_count in range(1, 11):
+            sieves = range(1, size_count, 2)
+            for count in [size_count, size_count + 1, LARGEST]:
+                calls = [*sifter([(1, 2)] * size_count, sieves), apply_best_sieves(count), get_sieves()]
+                self.assertEqual(ask(*calls)[-2:], [OUTSIDE_LIMITS, [len(sieves), *sieves]])
+
+    def test_the_sieves_do_not_follow_the_sizes_afterwards(self):
+        calls = [*sifter([(9, 1), (1, 9), (1, 9)]), apply_best_sieves(1), add_size(0, 50), add_size(60, 0),
+                 get_sieves(), apply_best_sieves(1), get_sieves()]
+        self.assertEqual(ask(*calls)[-6:], [[3], [3], [4], [1, 1], [11], [1, 4]])
+
+    def test_against_a_plain_search(self):
+        for sizes in many_sizes(Random(5), 1):
+            for count in range(len(sizes)):
+                amount, positions = plain_best(sizes, count)
+                self.assert_applied(sizes, range(1, len(sizes), 3), count, amount, positions)
 
 
 class PlainSearch(unittest.TestCase):

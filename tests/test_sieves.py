@@ -1,11 +1,10 @@
 """set_sieves, get_sieves, get_classes, misplaced, purity."""
 
 import unittest
-from random import Random
 
 from tests.helper import (
     LARGEST, NOTHING_THERE, OUTSIDE_LIMITS, add_size, all_position_lists, ask, ask_last, create, get_classes,
-    get_sieves, misplaced, plain_classes, plain_misplaced, purity, set_sieves, set_size, sifter,
+    get_sieves, misplaced, plain_classes, purity, set_sieves, set_size, sifter,
 )
 
 TEN = [(size, 90 + size) for size in range(10)]
@@ -111,35 +110,6 @@ class Misplaced(unittest.TestCase):
     def test_it_follows_the_sizes(self):
         changes = [misplaced(), set_size(1, 8, 7), misplaced(), add_size(0, 50), misplaced()]
         self.assertEqual(ask(*sifter([(9, 3), (2, 8)], [1]), *changes)[-5:], [[5], [0, 2, 8], [10], [2], [11]])
-
-
-class SievesAndTheirWorth(unittest.TestCase):
-    """The requirements that hold for any sizes and sieves."""
-
-    def setUp(self):
-        source = Random(2)
-        self.lists = [[(source.randint(0, 99), source.randint(0, 99)) for _ in range(5)] for _ in range(8)]
-        self.lists += [[(source.randint(0, 2), source.randint(0, 2)) for _ in range(5)] for _ in range(8)]
-
-    def amount(self, sizes, positions):
-        """The misplaced amount that the program tells, after a look at the plain one."""
-        answered = ask_last(*sifter(sizes, positions), misplaced())
-        self.assertEqual(answered, [plain_misplaced(sizes, positions)])
-        return answered[0]
-
-    def test_an_additional_sieve_never_misplaces_more(self):
-        for sizes in self.lists:
-            for positions in [chosen for count in range(4) for chosen in all_position_lists(sizes, count)]:
-                before = self.amount(sizes, positions)
-                for added in set(range(1, 5)) - set(positions):
-                    self.assertLessEqual(self.amount(sizes, sorted([*positions, added])), before)
-
-    def test_none_below_the_lower_bound_which_all_positions_reach(self):
-        for sizes in self.lists:
-            bound = sum(min(flour, bran) for flour, bran in sizes)
-            for positions in [chosen for count in range(5) for chosen in all_position_lists(sizes, count)]:
-                self.assertGreaterEqual(self.amount(sizes, positions), bound)
-            self.assertEqual(self.amount(sizes, [1, 2, 3, 4]), bound)
 
 
 class Purity(unittest.TestCase):
